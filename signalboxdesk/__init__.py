@@ -1,0 +1,1 @@
+"""A signal box: tracks, trains, and routes from signal to signal."""
