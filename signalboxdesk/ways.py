@@ -21,14 +21,13 @@ def follow(track, start, choices):
     spot = track.joined.get(start)
     while spot is not None:
         section = spot[0]
-        at_toe = is_points(track, section) and spot[1] == TOE
-        # Both may be met at one toe: then it is the one that is told first.
-        if at_toe and used == len(choices):
-            return (WRONG_CHOICES, [])
+        # A section is come to before its points are gone through: so this is met before a choice that lacks.
         if section in seen or len(steps) == MOST_STEPS:
             return (WAY_TOO_FAR, [])
         stance = 0
-        if at_toe:
+        if is_points(track, section) and spot[1] == TOE:
+            if used == len(choices):
+                return (WRONG_CHOICES, [])
             stance = choices[used]
             used += 1
         end_out = other_end(track, section, spot[1], stance)

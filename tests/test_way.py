@@ -147,9 +147,13 @@ class FirstAlongTheWay(CallsCase):
     def test_too_many_choices_at_the_sixteenth(self):
         self.both(line(17, [0, 1]), [0], -2)
 
-    def test_both_at_the_toe_of_a_seventeenth(self):
-        self.both(self.line_with_toe(17, 18), [], -2)
+    def test_a_seventeenth_before_a_choice_at_its_toe(self):
+        self.both(self.line_with_toe(17, 18), [], -7)
         self.both(self.line_with_toe(17, 18), [0], -7)
+        all_toes = lay([0] + [1] * 17, in_line(18), [0, 1])
+        self.both(all_toes, [0] * 16, -7)
+        self.both(all_toes, [0] * 17, -7)
+        self.both(all_toes, [0] * 15, -2)
 
     def test_a_second_time_before_choices_that_are_left(self):
         loop = lay([0, 1, 0], [0, 1, 1, 0, 1, 1, 2, 0, 2, 1, 1, 2], [0, 1])
