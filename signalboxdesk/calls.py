@@ -1,4 +1,4 @@
-"""The calls: each is done on a box and gives the list of what it answers."""
+"""The calls that change a box, unless they refuse: each gives the list of what it answers."""
 
 from signalboxdesk.refusals import (
     NO_SUCH,
@@ -9,8 +9,8 @@ from signalboxdesk.refusals import (
     SAYS_STOP,
     TRAINS_ALL_USED,
 )
-from signalboxdesk.state import Train, is_free, lay_points, least_unused, stands_for, start_anew
-from signalboxdesk.track import draw_track, has_end, other_end
+from signalboxdesk.state import Train, is_free, lay_points, least_unused, stands_for, start_anew, turned_about
+from signalboxdesk.track import draw_track, has_end, is_points, other_end
 from signalboxdesk.ways import way_from
 
 MOST_TRAINS = 8
@@ -63,17 +63,6 @@ def route(box, signal, choices):
     return [len(steps)]
 
 
-def way(box, signal, choices):
-    found = way_from(box.track, signal, choices)
-    if found[0] != 0:
-        return [found[0]]
-    steps = found[1]
-    answer = [len(steps), 3 * len(steps)]
-    for step in steps:
-        answer.extend(step)
-    return answer
-
-
 def cancel(box, signal):
     if signal >= len(box.track.signals):
         return [NO_SUCH]
@@ -98,3 +87,32 @@ def front(box, number):
     step = train.given.pop(0)
     train.stands.insert(0, step)
     return [step[0]]
+
+
+def rear(box, number):
+    if number not in box.trains:
+        return [NO_SUCH]
+    train = box.trains[number]
+    if len(train.stands) == 1:
+        return [NOT_AS_THINGS_STAND]
+    train.stands.pop()
+    return [len(train.stands)]
+
+
+def back(box, number):
+    if number not in box.trains:
+        return [NO_SUCH]
+    train = box.trains[number]
+    if len(train.given) > 0:
+        return [NOT_AS_THINGS_STAND]
+    train.stands = turned_about(train.stands)
+    return [len(train.stands)]
+
+
+def turn_points(box, section, stance):
+    if section >= len(box.track.kinds) or not is_points(box.track, section) or stance > 1:
+        return [NOT_ALLOWED]
+    if not is_free(box, section):
+        return [NOT_FREE]
+    box.stances[section] = stance
+    return [0]

@@ -35,6 +35,34 @@ def front(k):
     return [6, k]
 
 
+def rear(k):
+    return [7, k]
+
+
+def back(k):
+    return [8, k]
+
+
+def points(s, z):
+    return [9, s, z]
+
+
+def section(s):
+    return [10, s]
+
+
+def signal(i):
+    return [11, i]
+
+
+def train(k):
+    return [12, k]
+
+
+def count():
+    return [13]
+
+
 def flat(calls):
     return [number for call in calls for number in call]
 
@@ -77,60 +105,73 @@ def fork():
     return lay([0, 1, 0, 0], [0, 1, 1, 0, 1, 1, 2, 0, 1, 2, 3, 0], [0, 1, 2, 0, 3, 0, 0, 0])
 
 
+def by_threes(numbers):
+    if len(numbers) % 3 != 0:
+        raise AssertionError(numbers)
+    return [tuple(numbers[k:k + 3]) for k in range(0, len(numbers), 3)]
+
+
 def steps_of(answer):
     """The steps that way answers."""
     if answer[1] != 3 * answer[0] or len(answer) != 2 + answer[1]:
         raise AssertionError(answer)
-    return [tuple(answer[k:k + 3]) for k in range(2, len(answer), 3)]
+    return by_threes(answer[2:])
 
 
+def trains_steps(answer):
+    """The two lists of steps that train answers: on which it stands, which are given."""
+    behind = 2 + answer[1]
+    if answer[1] != 3 * answer[0] or len(answer) != behind + 1 + answer[behind]:
+        raise AssertionError(answer)
+    return by_threes(answer[2:behind]), by_threes(answer[behind + 1:])
+
+
+SECTIONS = range(24)
 SIGNALS = range(24)
 TRAINS = range(8)
 
 
-def emptied(calls):
-    """These calls, and more that leave no route and no train."""
-    gone = [*calls, *[cancel(i) for i in SIGNALS]]
-    for k in TRAINS:
-        for again in range(24):
-            if last(*gone, front(k))[0] < 0:
-                break
-            gone.append(front(k))
-        gone.append(take(k))
-    return gone
+class Seen:
+    """What section, signal, train and count tell behind some calls; nothing of numbers that aren't there."""
 
+    def __init__(self, calls):
+        asked = [section(s) for s in SECTIONS] + [signal(i) for i in SIGNALS] + [train(k) for k in TRAINS] + [count()]
+        told = ask(*calls, *asked)[len(calls):]
+        self.all_told = told
+        sections = [answer for answer in told[:24] if answer[0] >= 0]
+        self.held = [answer[0] for answer in sections]
+        self.stances = [answer[2] for answer in sections]
+        self.holders = [answer[3] if len(answer) == 4 else None for answer in sections]
+        self.signals = [answer[0] for answer in told[24:48] if answer[0] >= 0]
+        self.trains = {k: trains_steps(told[48 + k]) for k in TRAINS if told[48 + k][0] >= 0}
+        self.counts = told[56]
 
-def how_many(calls):
-    """The sections of the track that is laid last; 0 without one."""
-    sections = 0
-    for call, answer in zip(calls, ask(*calls)):
-        if call[0] == 0 and answer[0] > 0:
-            sections = answer[0]
-    return sections
+    def free(self):
+        return [s for s, held in enumerate(self.held) if held == 0]
+
+    def turned(self):
+        return [s for s, stance in enumerate(self.stances) if stance == 1]
 
 
 def free_sections(calls):
-    return [s for s in range(how_many(calls)) if last(*calls, put(s, 0)) != [-5]]
+    return Seen(calls).free()
 
 
 def turned_points(calls):
-    """Those that stand turned, whoever has them: asked when all else is gone."""
-    clear = emptied(calls)
-    return [s for s in range(how_many(calls)) if last(*clear, put(s, 1)) == [-3]]
+    return Seen(calls).turned()
+
+
+def trains_lists(calls, k):
+    return Seen(calls).trains[k]
 
 
 def look(calls):
-    """All that can be told of the state behind these calls: equal for equal states."""
+    """All that can be told of the state behind these calls, the track too: equal for equal states."""
     calls = list(calls)
-    sections = how_many(calls)
-    seen = [last(*calls, put(s, e)) for s in range(sections + 1) for e in range(4)]
-    seen.append([last(*calls, take(k)) for k in TRAINS])
-    seen.append([ask(*calls, *[front(k)] * (sections + 1), take(k))[len(calls):] for k in TRAINS])
-    seen.append(ask(*calls, *[cancel(i) for i in SIGNALS])[len(calls):])
-    seen.append([last(*calls, way(i, *c)) for i in SIGNALS for c in ([], [0], [1])])
-    seen.append(free_sections(calls))
-    seen.append(turned_points(calls))
-    return seen
+    seen = Seen(calls).all_told
+    ends = [last(*calls, put(s, e)) for s in range(len(Seen(calls).held) + 1) for e in range(4)]
+    ways = ask(*calls, *[way(i, *c) for i in SIGNALS for c in ([], [0], [1])])[len(calls):]
+    return seen, ends, ways
 
 
 class CallsCase(unittest.TestCase):
