@@ -176,9 +176,32 @@ class ComeRound(CallsCase):
     def test_a_route_that_comes_round_to_its_own_signal(self):
         track = ring(3, [0, 1])
         self.refuses([track, put(0, 1)], route(0), -5, 1, 0)
-        goes = [track, put(2, 1), route(0)]
-        self.last_gives(goes, -5, 1, 2)
+        self.refuses([track, put(2, 1)], route(0), -5, 1, 2)
         self.gives([track, route(0), section(0), signal(0), count()], 3, 3, (3, 2, 0, 0), 1, (0, 2, 1, 0))
+
+    def test_a_section_joined_with_itself(self):
+        before = [lay([0], [0, 0, 0, 1], [0, 1]), put(0, 1)]
+        self.refuses(before, route(0), -5, 1, 0)
+        self.refuses(before, rear(0), -3)
+        self.refuses([*before, back(0)], front(0), -3)
+        self.gives([*before, back(0), train(0), count()], 1, 0, 1, (1, 3, 0, 1, 0, 0), (1, 2, 0, 0))
+
+
+class ComeBack(CallsCase):
+    """0 to the toe of points 1, behind whose other ends 2 and 3 are a loop: a train comes back over the same points."""
+
+    LOOP = lay([0, 1, 0, 0], [0, 1, 1, 0, 1, 1, 2, 0, 2, 1, 3, 0, 3, 1, 1, 2], [0, 1, 3, 1])
+
+    def test_through_the_loop_and_out_again(self):
+        goes = [self.LOOP, put(0, 1), route(0, 0), front(0), front(0), front(0)]
+        self.gives(goes, 4, 0, 3, 1, 2, 3)
+        self.refuses(goes, route(1), -5, 1, 1)
+        self.refuses([*goes, rear(0)], route(1), -5, 1, 1)
+        round_it = [*goes, rear(0), rear(0), section(1), route(1), section(1), front(0), front(0)]
+        self.gives(round_it, 4, 0, 3, 1, 2, 3, 3, 2, (0, 1, 0), 2, (3, 2, 1, 1), 1, 0)
+        self.assertEqual(trains_lists(round_it, 0), ([(0, 1, 0), (1, 2, 0), (3, 0, 1), (2, 0, 1)], []))
+        self.assertEqual(trains_lists([*round_it, back(0)], 0)[0], [(2, 1, 0), (3, 1, 0), (1, 0, 2), (0, 0, 1)])
+        self.refuses(round_it, points(1, 0), -5)
 
 
 if __name__ == "__main__":
